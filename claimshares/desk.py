@@ -16,22 +16,17 @@ FULL = -8
 
 
 class ClaimClass:
-    """A class: its rule, and its claims in order."""
-
     def __init__(self, rule):
         self.rule = rule
         self.claims = []
 
 
 class Desk:
-    """One desk; at its beginning there are no classes, and nothing is there."""
-
     def __init__(self):
         self.classes = []
         self.stock = ZERO
 
     def new_class(self, rule):
-        """Put a class without claims behind the others; answer its number."""
         if rule > LAST_RULE:
             return [WRONG_NUMBER]
         if len(self.classes) >= MOST_CLASSES:
@@ -40,7 +35,6 @@ class Desk:
         return [len(self.classes) - 1]
 
     def claim(self, k, a, b):
-        """Put the claim a/b behind the others of class k; answer its number there."""
         if k >= len(self.classes):
             return [NO_SUCH_CLASS]
         if a == 0 or b == 0:
@@ -52,14 +46,12 @@ class Desk:
         return [len(claims) - 1]
 
     def there(self, a, b):
-        """Let a/b be there, in the place of what was there."""
         if b == 0:
             return [WRONG_NUMBER]
         self.stock = lowest(a, b)
         return [0]
 
     def class_shares(self):
-        """Answer for each class the list of its claims' shares."""
         left = self.stock
         result = []
         for one in self.classes:
@@ -69,7 +61,6 @@ class Desk:
         return result
 
     def share(self):
-        """Answer how many classes there are; for each how many claims, then each one's share."""
         numbers = [len(self.classes)]
         for shares in self.class_shares():
             numbers.append(len(shares))

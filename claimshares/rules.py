@@ -7,13 +7,12 @@ from claimshares.amounts import ZERO, ascending, divided, is_less, lesser, lowes
 
 
 def by_parts(claims, has):
-    """Share by the size of the claims."""
     claimed = together(claims)
     return [divided(times(claim, has), claimed) for claim in claims]
 
 
+# The least claims first: once one lies above an equal part of what's left, all behind it do too.
 def gains_level(claims, has):
-    """Answer a level such that the claims, none counted for more than it, come to what the class has."""
     level = ZERO
     left = has
     count = len(claims)
@@ -28,24 +27,20 @@ def gains_level(claims, has):
 
 
 def equal_gains(claims, has):
-    """Give each its claim, but none more than a level."""
     level = gains_level(claims, has)
     return [lesser(claim, level) for claim in claims]
 
 
 def less_losses(claims, losses):
-    """Answer each claim less its loss."""
     return [minus(claim, loss) for claim, loss in zip(claims, losses)]
 
 
 def equal_losses(claims, has):
-    """Share what's missing by equal gains, and give each its claim less that."""
     missing = minus(together(claims), has)
     return less_losses(claims, equal_gains(claims, missing))
 
 
 def as_two_agree(claims, has):
-    """Share so that each two get what they'd have agreed on by themselves."""
     halves = [lowest(claim[0], claim[1] * 2) for claim in claims]
     if not is_less(together(halves), has):
         return equal_gains(halves, has)
@@ -54,7 +49,6 @@ def as_two_agree(claims, has):
 
 
 def shares_by_rule(rule, claims, has):
-    """Answer the share of each claim by the rule, which is 0 to 3."""
     if rule == 0:
         return by_parts(claims, has)
     if rule == 1:

@@ -11,7 +11,6 @@ CALL_SIZES = (2, 4, 3, 1)
 
 
 def answer(desk, call):
-    """Answer one call on the desk; the call is its number, then its numbers."""
     if call[0] == NEW_CLASS:
         return desk.new_class(call[1])
     if call[0] == CLAIM:
@@ -22,7 +21,6 @@ def answer(desk, call):
 
 
 def answers(calls):
-    """Answer the calls on a new desk: for each how many numbers are answered, then these."""
     desk = Desk()
     result = []
     place = 0
