@@ -52,9 +52,25 @@ def together(amounts):
     return result
 
 
-def ascending(amounts):
-    # Pairs don't sort by size; what is above one common line does.
+# Pairs don't sort by size; what is above one common line does.
+def above_common_line(amounts):
     common = 1
     for amount in amounts:
         common = common * amount[1]
-    return sorted(amounts, key=lambda one: one[0] * (common // one[1]))
+    return [amount[0] * (common // amount[1]) for amount in amounts]
+
+
+def ascending(amounts):
+    sizes = above_common_line(amounts)
+    return [pair[1] for pair in sorted(zip(sizes, amounts))]
+
+
+# sorted keeps the order of equal ones, so of these the lower place stands first.
+def places_largest_first(amounts):
+    sizes = above_common_line(amounts)
+    return sorted(range(len(amounts)), key=lambda place: -sizes[place])
+
+
+# Amounts are in lowest terms, so a whole one has 1 below the line.
+def is_whole(amount):
+    return amount[1] == 1

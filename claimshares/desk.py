@@ -3,16 +3,34 @@
 Each call answers a list of whole numbers; a refusal is one number below 0.
 """
 
-from claimshares.amounts import ZERO, lesser, lowest, minus, together
+from claimshares.amounts import ZERO, is_whole, lesser, lowest, minus, together
 from claimshares.rules import shares_by_rule
+from claimshares.units import in_whole_units
 
 LAST_RULE = 3
 MOST_CLASSES = 4
 MOST_CLAIMS = 8
 
 WRONG_NUMBER = -1
-NO_SUCH_CLASS = -2
+NONE_SUCH = -2
+NOT_WHOLE = -6
 FULL = -8
+
+
+def told(amounts):
+    numbers = [len(amounts)]
+    for amount in amounts:
+        numbers.extend([amount[0], amount[1]])
+    return numbers
+
+
+def rise_below(numbers, limit):
+    least = 0
+    for number in numbers:
+        if number < least or number >= limit:
+            return False
+        least = number + 1
+    return True
 
 
 class ClaimClass:
@@ -36,7 +54,7 @@ class Desk:
 
     def claim(self, k, a, b):
         if k >= len(self.classes):
-            return [NO_SUCH_CLASS]
+            return [NONE_SUCH]
         if a == 0 or b == 0:
             return [WRONG_NUMBER]
         claims = self.classes[k].claims
@@ -63,7 +81,43 @@ class Desk:
     def share(self):
         numbers = [len(self.classes)]
         for shares in self.class_shares():
-            numbers.append(len(shares))
-            for amount in shares:
-                numbers.extend([amount[0], amount[1]])
+            numbers.extend(told(shares))
         return numbers
+
+    def all_is_whole(self):
+        if not is_whole(self.stock):
+            return False
+        for one in self.classes:
+            for amount in one.claims:
+                if not is_whole(amount):
+                    return False
+        return True
+
+    def whole(self):
+        if not self.all_is_whole():
+            return [NOT_WHOLE]
+        numbers = [len(self.classes)]
+        for shares in self.class_shares():
+            numbers.append(len(shares))
+            numbers.extend(in_whole_units(shares))
+        return numbers
+
+    def again(self, k, places):
+        if k >= len(self.classes):
+            return [NONE_SUCH]
+        one = self.classes[k]
+        if not rise_below(places, len(one.claims)):
+            return [WRONG_NUMBER]
+        shares = self.class_shares()[k]
+        has = together([shares[place] for place in places])
+        claims = [one.claims[place] for place in places]
+        return told(shares_by_rule(one.rule, claims, has))
+
+    def drop(self, k, i):
+        if k >= len(self.classes):
+            return [NONE_SUCH]
+        claims = self.classes[k].claims
+        if i >= len(claims):
+            return [NONE_SUCH]
+        claims.pop(i)
+        return [len(claims)]

@@ -21,6 +21,18 @@ def share():
     return [3]
 
 
+def whole():
+    return [4]
+
+
+def again(k, claims):
+    return [5, k, len(claims), *claims]
+
+
+def drop(k, i):
+    return [6, k, i]
+
+
 def joined(*calls):
     return [number for call in calls for number in call]
 
@@ -58,23 +70,49 @@ def class_calls(classes):
     return calls
 
 
-def shares_of(classes, amount):
-    """The shares as lists of Fractions, if amount is there."""
-    stock = there(amount.numerator, amount.denominator)
-    numbers = last(*class_calls(classes), stock, share())
+def desk_calls(classes, amount):
+    """The calls that make the classes and put the amount there; whole numbers, Fractions or texts like 1/2."""
+    stock = Fraction(amount)
+    made = [(rule, [Fraction(one) for one in claims]) for rule, claims in classes]
+    return [*class_calls(made), there(stock.numerator, stock.denominator)]
+
+
+def fraction_list(numbers):
+    return [Fraction(a, b) for a, b in zip(numbers[::2], numbers[1::2], strict=True)]
+
+
+def rows_of(numbers, width):
+    """What share (width 2) or whole (width 1) answered, class by class."""
     result = []
     place = 1
     for _ in range(numbers[0]):
-        count = numbers[place]
-        place += 1
-        pairs = [(numbers[at], numbers[at + 1]) for at in range(place, place + 2 * count, 2)]
-        result.append([Fraction(a, b) for a, b in pairs])
-        place += 2 * count
+        end = place + 1 + width * numbers[place]
+        result.append(numbers[place + 1:end])
+        place = end
     if place != len(numbers):
-        raise AssertionError(f"too many numbers: {numbers}")
+        raise AssertionError(f"not as many numbers as told: {numbers}")
     return result
 
 
+def shares_of(classes, amount):
+    """The shares as lists of Fractions, if amount is there."""
+    numbers = last(*desk_calls(classes, amount), share())
+    return [fraction_list(row) for row in rows_of(numbers, 2)]
+
+
+def units_of(classes, amount):
+    """The shares in whole units, if amount is there."""
+    return rows_of(last(*desk_calls(classes, amount), whole()), 1)
+
+
+def again_of(classes, amount, k, claims):
+    """What again answers, as a list of Fractions, if amount is there."""
+    numbers = last(*desk_calls(classes, amount), again(k, claims))
+    if numbers[0] != len(claims):
+        raise AssertionError(f"not as many claims as told: {numbers}")
+    return fraction_list(numbers[1:])
+
+
 def class_shares(rule, claims, amount):
-    """The shares of a class that is alone; whole numbers or Fractions."""
-    return shares_of([(rule, [Fraction(one) for one in claims])], Fraction(amount))[0]
+    """The shares of a class that is alone; whole numbers, Fractions or texts like 1/2."""
+    return shares_of([(rule, claims)], amount)[0]

@@ -1,6 +1,7 @@
 """The package keeps to the rules of its language that can be seen row by row."""
 
 import ast
+import builtins
 import re
 import unittest
 from pathlib import Path
@@ -32,12 +33,29 @@ def nodes():
     return [(name, node) for name, text in sources() for node in ast.walk(ast.parse(text))]
 
 
-def bound_names(tree):
+def stored_names(tree):
+    """What is assigned to, and the parameters."""
     names = {node.id for node in ast.walk(tree) if isinstance(node, ast.Name) and isinstance(node.ctx, ast.Store)}
-    names |= {node.arg for node in ast.walk(tree) if isinstance(node, ast.arg)}
+    return names | {node.arg for node in ast.walk(tree) if isinstance(node, ast.arg)}
+
+
+def bound_names(tree):
+    names = stored_names(tree)
     names |= {node.name for node in ast.walk(tree) if isinstance(node, (ast.FunctionDef, ast.ClassDef))}
     names |= {alias.name for node in ast.walk(tree) if isinstance(node, ast.ImportFrom) for alias in node.names}
     return names
+
+
+def bound_at_top(node):
+    if isinstance(node, ast.ImportFrom):
+        return [alias.name for alias in node.names]
+    if isinstance(node, ast.Assign):
+        return [node.targets[0].id]
+    return [node.name] if isinstance(node, (ast.FunctionDef, ast.ClassDef)) else []
+
+
+def drawn_from(text):
+    return {node.module.split(".")[-1] for node in ast.parse(text).body if isinstance(node, ast.ImportFrom)}
 
 
 class Language(unittest.TestCase):
@@ -98,6 +116,41 @@ class Language(unittest.TestCase):
         for name, node in nodes():
             if isinstance(node, ast.Call) and isinstance(node.func, ast.Attribute):
                 self.assertIn(node.func.attr, own | METHODS, (name, node.lineno))
+
+    def test_no_local_is_called_like_a_class_or_an_import(self):
+        for name, text in sources():
+            tree = ast.parse(text)
+            taken = {alias.name for node in tree.body if isinstance(node, ast.ImportFrom) for alias in node.names}
+            taken |= {node.name for node in tree.body if isinstance(node, ast.ClassDef)}
+            self.assertEqual(stored_names(tree) & taken, set(), name)
+            self.assertEqual(stored_names(tree) & set(dir(builtins)), set(), name)
+
+    def test_each_name_of_a_files_top_stands_once(self):
+        for name, text in sources():
+            tops = [one for node in ast.parse(text).body for one in bound_at_top(node)]
+            self.assertEqual(len(tops), len(set(tops)), name)
+
+    def test_no_name_is_a_method_and_a_value(self):
+        attributes = [node for _, node in nodes() if isinstance(node, ast.Attribute)]
+        values = {node.attr for node in attributes if isinstance(node.ctx, ast.Store)}
+        methods = {method.name for _, node in nodes() if isinstance(node, ast.ClassDef) for method in node.body}
+        self.assertEqual(values & methods, set())
+        for kind in (str, int, list, dict, set, bytes, tuple):
+            self.assertEqual((values | methods - {"__init__"}) & set(dir(kind)), set(), kind)
+
+    def test_no_two_files_draw_from_one_another(self):
+        draws = {name[:-3]: drawn_from(text) for name, text in sources()}
+        while draws:
+            free = [name for name, drawn in draws.items() if not drawn & set(draws)]
+            self.assertTrue(free, draws)
+            for name in free:
+                draws.pop(name)
+
+    def test_comprehensions_have_one_for_and_at_most_one_if(self):
+        for name, node in nodes():
+            if isinstance(node, ast.ListComp):
+                self.assertEqual(len(node.generators), 1, (name, node.lineno))
+                self.assertLessEqual(len(node.generators[0].ifs), 1, (name, node.lineno))
 
 
 if __name__ == "__main__":
